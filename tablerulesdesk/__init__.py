@@ -1,0 +1,1 @@
+"""Tables with references: rules, statements, what removing takes along."""
