@@ -1,10 +1,9 @@
 """Reads a schema's text, or finds its first fault."""
 
 from tablerulesdesk.scanner import text_of, tokens_of
-from tablerulesdesk.schema import Column, Table
+from tablerulesdesk.schema import COLUMNS_MOST, Column, Table
 
 TABLES_MOST = 4
-COLUMNS_MOST = 4
 NO_NAMES = ("table", "number", "from", "to", "ref", "none", "cascade", "clear", "unique")
 
 TOO_MANY = 5

@@ -6,6 +6,11 @@ ROWS_MOST = 8
 ID_MOST = 99
 
 
+def is_id(number):
+    """Tell whether a row may have this id."""
+    return 1 <= number <= ID_MOST
+
+
 def are_values(numbers):
     """Tell whether each number is one that a row may hold."""
     return all([-VALUE_MOST <= number <= VALUE_MOST for number in numbers])
@@ -61,8 +66,20 @@ def rows_of_table(told, width):
     return table_rows
 
 
+def copied(rows):
+    """Give the tables' rows once more, so that rows can be put in and taken out here alone."""
+    return [dict(table_rows) for table_rows in rows]
+
+
 def with_row(rows, table, row_id, values):
-    """Give the tables' rows with one more row; what is handed in stays as it is."""
-    changed = [dict(table_rows) for table_rows in rows]
+    """Give the tables' rows with this row, in the place of an earlier one of its id."""
+    changed = copied(rows)
     changed[table][row_id] = list(values)
+    return changed
+
+
+def without_row(rows, table, row_id):
+    """Give the tables' rows without this one."""
+    changed = copied(rows)
+    changed[table].pop(row_id)
     return changed

@@ -1,6 +1,7 @@
 """What a schema is made of. A schema is a list of tables, told by their numbers in it."""
 
 VALUE_MOST = 1000000
+COLUMNS_MOST = 4
 
 
 class Column:
@@ -26,3 +27,8 @@ class Table:
     def __init__(self, name, columns):
         self.name = name
         self.columns = columns
+
+
+def is_table(schema, number):
+    """Tell whether the schema has a table of this number."""
+    return 0 <= number < len(schema)

@@ -30,6 +30,31 @@ def insert(table, row_id, *values):
     return with_list([5, table, row_id], list(values))
 
 
+def update(table, row_id, *pairs):
+    return with_list([6, table, row_id], list(pairs))
+
+
+def delete(table, row_id):
+    return [7, table, row_id]
+
+
+def would(table, row_id):
+    return [8, table, row_id]
+
+
+def refers(table, row_id):
+    return [9, table, row_id]
+
+
+def many(mode, *statements):
+    """The call many; each statement is a list of numbers, and so may be the beginning of one."""
+    return with_list([10, mode], [number for statement in statements for number in statement])
+
+
+def row(table, row_id):
+    return [11, table, row_id]
+
+
 def with_list(ahead, numbers):
     return ahead + [len(numbers)] + numbers
 

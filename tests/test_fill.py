@@ -48,6 +48,7 @@ class Form(unittest.TestCase):
         self.is_refused(TWO, 0, 9, 1, 2, 3, 4, 5, 6, 7, 8, 9)
         self.is_refused(TWO, -1, 0)
         self.is_refused(TWO, 0, -1)
+        self.is_refused(TWO, -1, 4, 5)
         self.is_refused(TWO, BIG, 0)
         self.is_refused(TWO, 0, -BIG)
 

@@ -69,7 +69,8 @@ class GoodTexts(unittest.TestCase):
         self.assertEqual(self.counts("table abcdefghijkl { a1_2_3_4_5_6: ref abcdefghijkl; }"), [1, 1])
 
     def test_names_that_hold_or_begin_like_other_words(self):
-        self.assertEqual(self.counts("table tables { to_: number; fromx: number; ref1: ref tables; no: number; }"), [1, 4])
+        text = "table tables { to_: number; fromx: number; ref1: ref tables; no: number; }"
+        self.assertEqual(self.counts(text), [1, 4])
 
     def test_a_column_may_be_called_like_a_table_or_one_of_another_table(self):
         self.assertEqual(self.counts("table p { p: number; q: number; } table q { p: number; q: ref p; }"), [2, 4])
